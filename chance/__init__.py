@@ -1,0 +1,1 @@
+"""Chancebook: exact chances of random generators."""

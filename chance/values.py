@@ -5,6 +5,8 @@ calls. So everything but `is_value` keeps a list of what it still has to visit
 instead of calling itself, and no two tuples are compared by `==` or `<`.
 """
 
+from chance.kinds import is_integer
+
 MOST_PARTS = 64
 MOST_LEVELS = 8
 
@@ -16,8 +18,8 @@ def is_value(thing):
 
 def _fits(thing, levels):
     """Return True if a thing is a value of at most so many levels of tuples."""
-    if isinstance(thing, int):
-        return not isinstance(thing, bool)
+    if is_integer(thing):
+        return True
     if not isinstance(thing, tuple) or levels == 0 or len(thing) > MOST_PARTS:
         return False
     for part in thing:

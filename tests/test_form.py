@@ -22,7 +22,19 @@ INTERFACE = {
         "is_value": ["thing"], "compare": ["one", "two"], "ascending": ["values"], "place_of": ["value", "found"],
         "sum_of": ["value"], "size_of": ["value"], "apply": ["operation", "value"],
     },
+    "checks": {"is_test": ["thing"], "holds": ["test", "value"]},
+    "terms": {
+        "is_term": ["thing"], "checked": ["thing"], "parts_of": ["term"], "uses": ["term", "name"], "is_closed": ["term", "names"],
+        "substitute": ["term", "name", "value"], "unfolded": ["term"],
+    },
+    "tapes": {
+        "Tape": ["numbers"], "run": ["term", "numbers"], "trimmed": ["numbers"], "paths": ["term"], "shorter": ["one", "two"],
+        "tape_of": ["term", "value"],
+    },
 }
+
+# The methods that the interface lists, with their arguments.
+METHODS = {("tapes", "Tape"): {"draw": ["self", "size"], "step": ["self"]}}
 
 LIBRARY = {
     "heapq": {"heappush", "heappop", "heapify", "heapreplace", "heappushpop"},
@@ -48,6 +60,14 @@ class TestInterface(unittest.TestCase):
                     self.assertEqual(thing.__module__, "chance." + file)
                     if arguments is not None:
                         self.assertEqual(list(inspect.signature(thing).parameters), arguments)
+
+    def test_methods_stand_in_their_class(self):
+        for (file, name), methods in METHODS.items():
+            module = importlib.import_module("chance." + file)
+            for method, arguments in methods.items():
+                with self.subTest(file=file, name=name, method=method):
+                    thing = vars(getattr(module, name))[method]
+                    self.assertEqual(list(inspect.signature(thing).parameters), arguments)
 
 
 class TestForm(unittest.TestCase):

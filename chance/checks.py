@@ -1,4 +1,4 @@
-"""Tests: which things are tests, and which values pass them."""
+"""Tests: which things are tests, which values pass them, and what tries for a test come to."""
 
 from chance.kinds import has_head, is_integer
 from chance.values import compare, is_value, size_of, sum_of
@@ -76,3 +76,16 @@ def _is_rising(value):
         if compare(one, two) > 0:
             return False
     return True
+
+
+def tried(whole, failing, tries):
+    """Return by what so many tries for a test multiply a passing case, and in how many cases all fail.
+
+    One try has so many cases, of which so many fail.
+    """
+    factor = 0
+    failed = 1
+    for _ in range(tries):
+        factor = factor * whole + failed
+        failed = failed * failing
+    return (factor, failed)

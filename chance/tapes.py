@@ -7,7 +7,7 @@ steps, however large the terms are that replacing them would give.
 
 from chance.checks import holds
 from chance.errors import Impossible, TooLarge
-from chance.terms import checked, replaced
+from chance.terms import Scope, checked, grown, meant_by, named
 from chance.values import apply, compare
 
 MOST_STEPS = 4000
@@ -43,18 +43,6 @@ class Tape:
         self._steps += 1
         if self._steps > MOST_STEPS:
             raise TooLarge("steps")
-
-
-class Scope:
-    """The values of variables by their names, and what a self stands for.
-
-    A self stands for the pair of a grow and the scope of that grow, or for None
-    outside of all grows.
-    """
-
-    def __init__(self, names, smaller):
-        self.names = names
-        self.smaller = smaller
 
 
 def _run_const(term, scope, tape, around):
@@ -138,7 +126,7 @@ def _run_let(term, scope, tape, around):
     """Return the value of a run of a let."""
     _, name, first, last = term
     value = _value(first, scope, tape, around)
-    return _value(last, Scope({**scope.names, name: value}, scope.smaller), tape, around)
+    return _value(last, named(scope, name, value), tape, around)
 
 
 def _run_grow(term, scope, tape, around):
@@ -146,8 +134,7 @@ def _run_grow(term, scope, tape, around):
     _, size, first, last = term
     if size == 0:
         return _value(first, scope, tape, around)
-    smaller = ("grow", size - 1, first, last)
-    return _value(last, Scope(scope.names, (smaller, scope)), tape, around)
+    return _value(last, grown(scope, term), tape, around)
 
 
 ACTIONS = {
@@ -168,21 +155,12 @@ ACTIONS = {
 
 def _value(term, scope, tape, around):
     """Return the value of a run of a term inside so many others that are being run."""
-    meant, inner = _meant(term, scope)
+    meant, inner = meant_by(term, scope)
     tape.step()
     if around == MOST_AROUND:
         raise TooLarge("depth")
     action = ACTIONS[meant[0]]
     return action(meant, inner, tape, around + 1)
-
-
-def _meant(term, scope):
-    """Return the term that a term stands for, if it is a self or has a variable, and its scope."""
-    if term[0] == "self":
-        return scope.smaller
-    if term[0] in ("var", "upto"):
-        return (replaced(term, scope.names[term[1]]), scope)
-    return (term, scope)
 
 
 def _outcome(term, tape):

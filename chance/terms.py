@@ -42,9 +42,21 @@ OPERATIONS = {"add": 2, "mul": 2, "mod": 2, "sum": 1, "size": 1, "sort": 1, "rev
 LAST_PARTS = {"list": 1, "map": 1, "keep": 1, "let": 2, "grow": 2}
 
 
+class Scope:
+    """The values of variables by their names, and what a self stands for.
+
+    A self stands for the pair of a grow and the scope of that grow, or for None
+    outside of all grows.
+    """
+
+    def __init__(self, names, smaller):
+        self.names = names
+        self.smaller = smaller
+
+
 def is_term(thing):
     """Return True if a thing of any kind is a closed term."""
-    return _is_formed(thing, MOST_LEVELS) and is_closed(thing) and not _has_free_self(thing)
+    return is_formed(thing, MOST_LEVELS) and is_closed(thing) and not _has_free_self(thing)
 
 
 def checked(thing):
@@ -54,12 +66,12 @@ def checked(thing):
     return thing
 
 
-def _is_formed(thing, levels):
+def is_formed(thing, levels):
     """Return True if a thing is a term, perhaps an open one, of at most so many levels."""
     if levels == 0 or not has_head(thing) or LENGTHS.get(thing[0]) != len(thing) or not _has_items(thing):
         return False
     for part in parts_of(thing):
-        if not _is_formed(part, levels - 1):
+        if not is_formed(part, levels - 1):
             return False
     return True
 
@@ -221,3 +233,23 @@ def _with_self(term, smaller):
     for part in parts:
         found.append(_with_self(part, smaller))
     return rebuilt(term, found)
+
+
+def meant_by(term, scope):
+    """Return what a var, an upto or a self stands for, any other term as it is, and the scope of that."""
+    if term[0] == "self":
+        return scope.smaller
+    if term[0] in ("var", "upto"):
+        return (replaced(term, scope.names[term[1]]), scope)
+    return (term, scope)
+
+
+def named(scope, name, value):
+    """Return the scope of the last part of a let in the scope."""
+    return Scope({**scope.names, name: value}, scope.smaller)
+
+
+def grown(scope, term):
+    """Return the scope of the last part of a grow in the scope."""
+    _, size, first, last = term
+    return Scope(scope.names, (("grow", size - 1, first, last), scope))

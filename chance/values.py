@@ -47,22 +47,25 @@ def compare(one, two):
     return 0
 
 
-def _ranks(value):
-    """Return the ranks of a value and of all that is in it, from left to right."""
+def ranks_of(value):
+    """Return the ranks of a value and of all that is in it, from left to right, in one flat tuple.
+
+    Values are equal if their ranks are, and are ordered as their ranks are: the
+    first ranks that differ are those at which `compare` decides, too.
+    """
     ranks = []
     waiting = [value]
     while waiting:
         part = waiting.pop()
-        ranks.append(_rank(part))
+        ranks.extend(_rank(part))
         if isinstance(part, tuple):
             waiting.extend(part[::-1])
-    return ranks
+    return tuple(ranks)
 
 
 def ascending(values):
     """Return the list of these values in ascending order, with duplicates."""
-    # The first ranks that differ are those at which `compare` decides, too.
-    return sorted(values, key=_ranks)
+    return sorted(values, key=ranks_of)
 
 
 def place_of(value, found):

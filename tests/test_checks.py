@@ -2,7 +2,7 @@
 
 import unittest
 
-from chance.checks import holds, is_test
+from chance.checks import holds, is_test, tried
 
 HUGE = 10 ** 40
 # More levels than Python nests calls.
@@ -226,6 +226,15 @@ class TestHolds(unittest.TestCase):
         self.check(("any", ("less", 4)), [deep, (deep, 4)], [(nested(4, FAR), 4)])
         self.assertIs(holds(("equals", deep), nested(3, FAR)), True)
         self.assertIs(holds(("equals", deep), nested(4, FAR)), False)
+
+
+class TestTried(unittest.TestCase):
+    def test_numbers_of_point_20(self):
+        for whole in (1, 2, 15, HUGE):
+            for failing in (0, 1, 7, HUGE):
+                for tries in (1, 2, 3, 4):
+                    factor = sum(whole ** (tries - 1 - number) * failing ** number for number in range(tries))
+                    self.assertEqual(tried(whole, failing, tries), (factor, failing ** tries))
 
 
 if __name__ == "__main__":

@@ -31,10 +31,20 @@ INTERFACE = {
         "Tape": ["numbers"], "run": ["term", "numbers"], "trimmed": ["numbers"], "paths": ["term"], "shorter": ["one", "two"],
         "tape_of": ["term", "value"],
     },
+    "measure": {
+        "Spread": None, "spread": ["term"], "chance": ["term", "test"], "conditional": ["term", "test"], "mean": ["term"],
+    },
+    "alias": {
+        "build": ["weights"], "choose": ["columns", "column", "number"], "shares": ["columns", "whole"], "is_table": ["columns", "weights"],
+    },
+    "rules": {"apply_rule": ["name", "term", "numbers"]},
 }
 
 # The methods that the interface lists, with their arguments.
-METHODS = {("tapes", "Tape"): {"draw": ["self", "size"], "step": ["self"]}}
+METHODS = {
+    ("tapes", "Tape"): {"draw": ["self", "size"], "step": ["self"]},
+    ("measure", "Spread"): {"of": ["self", "value"], "rows": ["self"]},
+}
 
 LIBRARY = {
     "heapq": {"heappush", "heappop", "heapify", "heapreplace", "heappushpop"},

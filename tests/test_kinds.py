@@ -2,7 +2,7 @@
 
 import unittest
 
-from chance.kinds import has_head, is_integer, is_within
+from chance.kinds import alike, has_head, is_integer, is_within
 
 HUGE = 10 ** 40
 NO_INTEGERS = [True, False, None, "", "1", b"1", 1.0, 1j, (), (1,), [1], {1: 1}, {1}, object(), int]
@@ -29,6 +29,32 @@ class TestKinds(unittest.TestCase):
             self.assertIs(has_head(thing), True)
         for thing in ((), (1, "a"), (("a",),), (None,), (b"a",), ["a"], "a", "ab", {"a": 1}, {"a"}, None, 5, True):
             self.assertIs(has_head(thing), False)
+
+    def test_alike(self):
+        known = [0, -1, HUGE, "", "ab", None, (), [], (1,), [1], (1, (2, [3, None, "a"])), [((0,), None)], ((), ()), [(), [()]]]
+        for first, one in enumerate(known):
+            for second, two in enumerate(known):
+                self.assertIs(alike(one, two), first == second)
+        for thing in (True, 1.0, 1j, b"", "1", {}, {1}, {1: 1}, object(), range(1), frozenset(), False, 0.0, (True,), [1.0], ((1,), (2, [3, None, "a"]))):
+            for one in known:
+                self.assertIs(alike(thing, one), False)
+        for thing in ((1, 2), [1, 2], ([1],), [(1,)], (1, (2, (3, None, "a"))), (1, (2, [3, None, "a"], 4)), ((1, (2, [3, 0, "a"])),)):
+            for one in known:
+                self.assertIs(alike(thing, one), False)
+
+    def test_alike_far_inside(self):
+        deep, other = 5, 6
+        for _ in range(5000):
+            deep, other = (deep,), (other,)
+        same = 5
+        for _ in range(5000):
+            same = (same,)
+        self.assertIs(alike(same, deep), True)
+        self.assertIs(alike(other, deep), False)
+        self.assertIs(alike((deep,), deep), False)
+        knot = []
+        knot.append(knot)
+        self.assertIs(alike(knot, [[[]]]), False)
 
 
 if __name__ == "__main__":

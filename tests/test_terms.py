@@ -3,7 +3,9 @@
 import unittest
 
 from chance.errors import Invalid, Refused
-from chance.terms import checked, is_closed, is_term, parts_of, rebuilt, substitute, unfolded, uses
+from chance.terms import (
+    Scope, checked, grown, is_closed, is_formed, is_term, meant_by, named, parts_of, rebuilt, substitute, unfolded, uses,
+)
 
 HUGE = 10 ** 40
 # More levels than Python nests calls.
@@ -490,6 +492,44 @@ class TestUnfolded(unittest.TestCase):
         last = ("let", "x", SELF, ("tuple", (SELF, X)))
         smaller = ("grow", 1, ONE, last)
         self.assertEqual(unfolded(("grow", 2, ONE, last)), ("let", "x", smaller, ("tuple", (smaller, X))))
+
+
+class TestIsFormed(unittest.TestCase):
+    def test_open_terms(self):
+        for term in EACH + [X, ("upto", "x"), SELF, ("let", "x", X, Y), ("grow", 1, SELF, X)]:
+            levels = 2 if parts_of(term) else 1
+            if term[0] == "grow" and parts_of(term[3]):
+                levels = 3
+            self.assertIs(is_formed(term, levels), True)
+            self.assertIs(is_formed(term, levels - 1), False)
+        for thing in (("const",), ("pick", ()), ("var", "X"), None, 5, ["self"], ("self", 1)):
+            self.assertIs(is_formed(thing, 24), False)
+
+
+class TestScope(unittest.TestCase):
+    def test_variables(self):
+        outer = Scope({"x": 3}, None)
+        inner = named(named(outer, "y", (1,)), "x", 64)
+        self.assertEqual(meant_by(X, outer), (("const", 3), outer))
+        self.assertEqual(meant_by(("upto", "x"), outer), (("range", 0, 3), outer))
+        self.assertEqual(meant_by(X, inner), (("const", 64), inner))
+        self.assertEqual(meant_by(("upto", "x"), inner), (("const", 0), inner))
+        self.assertEqual(meant_by(Y, inner), (("const", (1,)), inner))
+        self.assertEqual(outer.names, {"x": 3})
+
+    def test_selfs(self):
+        term = ("grow", 2, ONE, ("tuple", (SELF, X)))
+        outer = Scope({"x": 3}, None)
+        inner = named(grown(outer, term), "x", 4)
+        meant, scope = meant_by(SELF, inner)
+        self.assertEqual((meant, scope), (("grow", 1, ONE, ("tuple", (SELF, X))), outer))
+        self.assertEqual(meant_by(X, inner), (("const", 4), inner))
+        self.assertEqual(meant_by(X, scope), (("const", 3), outer))
+
+    def test_other_terms(self):
+        scope = Scope({}, None)
+        for term in EACH:
+            self.assertEqual(meant_by(term, scope), (term, scope))
 
 
 if __name__ == "__main__":

@@ -4,7 +4,7 @@ import unittest
 from functools import cmp_to_key
 from itertools import permutations
 
-from chance.values import apply, ascending, compare, is_value, place_of, size_of, sum_of
+from chance.values import apply, ascending, compare, is_value, place_of, ranks_of, size_of, sum_of
 
 HUGE = 10 ** 40
 # More levels than Python nests calls, and more than it compares tuples by `==`.
@@ -177,6 +177,22 @@ class TestAscending(unittest.TestCase):
         found = ascending([nested(4, FAR), (0,) * 100, nested(3, FAR), 7])
         self.assertEqual((found[0], found[3]), (7, (0,) * 100))
         self.assertEqual((unnested(found[1]), unnested(found[2])), ((3, FAR), (4, FAR)))
+
+
+class TestRanksOf(unittest.TestCase):
+    def test_order_and_equality(self):
+        for values in (ORDERED, small_values()):
+            for one in values:
+                for two in values:
+                    left, right = ranks_of(one), ranks_of(two)
+                    self.assertEqual((left > right) - (left < right), compare(one, two))
+
+    def test_flat_tuples_of_integers(self):
+        for value in ORDERED + [nested(3, FAR)]:
+            self.assertIs(type(ranks_of(value)), tuple)
+            self.assertEqual({type(number) for number in ranks_of(value)}, {int})
+        self.assertNotEqual(ranks_of(nested(3, FAR)), ranks_of(nested(4, FAR)))
+        self.assertNotEqual(ranks_of(nested(3, FAR)), ranks_of(nested(3, FAR + 1)))
 
 
 class TestPlaceOf(unittest.TestCase):

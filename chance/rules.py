@@ -10,7 +10,7 @@ LOST = ("discard",)
 
 def _weigh(pairs):
     """Return the weigh of these pairs, or None if it has too many pairs or too great a weight."""
-    if len(pairs) > MOST_PARTS or max([weight for weight, _ in pairs]) > MOST_WEIGHT:
+    if len(pairs) > MOST_PARTS or any([weight > MOST_WEIGHT for weight, _ in pairs]):
         return None
     return ("weigh", tuple(pairs))
 
@@ -214,30 +214,49 @@ def _grow_unfold(term, numbers):
     return unfolded(term)
 
 
-# The head to which a rule applies, how many numbers it takes, and what it makes of a term with them.
+# The head to which a rule applies, and how many numbers it takes.
 RULES = {
-    "pick-weigh": ("pick", 0, _pick_weigh),
-    "weigh-flat": ("weigh", 1, _weigh_flat),
-    "weigh-merge": ("weigh", 2, _weigh_merge),
-    "weigh-swap": ("weigh", 2, _weigh_swap),
-    "weigh-reduce": ("weigh", 1, _weigh_reduce),
-    "weigh-one": ("weigh", 0, _weigh_one),
-    "range-weigh": ("range", 0, _range_weigh),
-    "map-inside": ("map", 0, _map_inside),
-    "tuple-const": ("tuple", 0, _tuple_const),
-    "tuple-at": ("tuple", 1, _tuple_at),
-    "list-weigh": ("list", 0, _list_weigh),
-    "shuffle-weigh": ("shuffle", 0, _shuffle_weigh),
-    "keep-inside": ("keep", 0, _keep_inside),
-    "let-inside": ("let", 0, _let_inside),
-    "let-unused": ("let", 0, _let_unused),
-    "grow-unfold": ("grow", 0, _grow_unfold),
+    "pick-weigh": ("pick", 0),
+    "weigh-flat": ("weigh", 1),
+    "weigh-merge": ("weigh", 2),
+    "weigh-swap": ("weigh", 2),
+    "weigh-reduce": ("weigh", 1),
+    "weigh-one": ("weigh", 0),
+    "range-weigh": ("range", 0),
+    "map-inside": ("map", 0),
+    "tuple-const": ("tuple", 0),
+    "tuple-at": ("tuple", 1),
+    "list-weigh": ("list", 0),
+    "shuffle-weigh": ("shuffle", 0),
+    "keep-inside": ("keep", 0),
+    "let-inside": ("let", 0),
+    "let-unused": ("let", 0),
+    "grow-unfold": ("grow", 0),
+}
+ACTIONS = {
+    "pick-weigh": _pick_weigh,
+    "weigh-flat": _weigh_flat,
+    "weigh-merge": _weigh_merge,
+    "weigh-swap": _weigh_swap,
+    "weigh-reduce": _weigh_reduce,
+    "weigh-one": _weigh_one,
+    "range-weigh": _range_weigh,
+    "map-inside": _map_inside,
+    "tuple-const": _tuple_const,
+    "tuple-at": _tuple_at,
+    "list-weigh": _list_weigh,
+    "shuffle-weigh": _shuffle_weigh,
+    "keep-inside": _keep_inside,
+    "let-inside": _let_inside,
+    "let-unused": _let_unused,
+    "grow-unfold": _grow_unfold,
 }
 
 
 def apply_rule(name, term, numbers):
     """Return the term that a rule makes of a term with these numbers, or None if it does not apply."""
-    head, many, action = RULES[name]
+    head, many = RULES[name]
     if term[0] != head or len(numbers) != many:
         return None
+    action = ACTIONS[name]
     return action(term, numbers)

@@ -56,7 +56,7 @@ class Scope:
 
 def is_term(thing):
     """Return True if a thing of any kind is a closed term."""
-    return is_formed(thing, MOST_LEVELS) and is_closed(thing) and not _has_free_self(thing)
+    return is_formed(thing, MOST_LEVELS) and is_closed(thing) and not has_free_self(thing)
 
 
 def checked(thing):
@@ -176,7 +176,7 @@ def is_closed(term, names=()):
     return True
 
 
-def _has_free_self(term):
+def has_free_self(term):
     """Return True if a self in the term belongs to no grow in it."""
     if term[0] == "self":
         return True
@@ -185,7 +185,7 @@ def _has_free_self(term):
         # Each self in the last part belongs to this grow or to one further inside.
         parts = parts[:1]
     for part in parts:
-        if _has_free_self(part):
+        if has_free_self(part):
             return True
     return False
 

@@ -1,6 +1,7 @@
 """The form of the package: its files, its interface, and some rules of its language."""
 
 import ast
+import builtins
 import importlib
 import inspect
 import pathlib
@@ -38,6 +39,13 @@ INTERFACE = {
         "build": ["weights"], "choose": ["columns", "column", "number"], "shares": ["columns", "whole"], "is_table": ["columns", "weights"],
     },
     "rules": {"apply_rule": ["name", "term", "numbers"]},
+    "logs": {"is_step": ["thing"], "term_at": ["term", "path"], "stepped": ["term", "step"], "replay": ["term", "log"]},
+    "normal": {"normal": ["term"], "same_chances": ["one", "two"]},
+    "shrink": {
+        "candidates": ["numbers"], "shrink": ["term", "test", "numbers"], "paper": ["term", "numbers"],
+        "is_least": ["term", "test", "numbers", "told"],
+    },
+    "texts": {"parse": ["text"], "parse_test": ["text"], "show": ["term"], "show_test": ["test"]},
 }
 
 # The methods that the interface lists, with their arguments.
@@ -53,6 +61,13 @@ LIBRARY = {
         "product", "combinations", "permutations", "chain", "accumulate", "pairwise", "islice", "zip_longest",
     },
     "collections": {"defaultdict"},
+}
+
+
+# Those that the package uses of the ones that the language allows.
+BUILTINS = {
+    "Exception", "ValueError", "abs", "all", "any", "bool", "divmod", "enumerate", "int", "isinstance", "len", "list", "max", "min", "range", "reversed",
+    "sorted", "str", "sum", "super", "tuple", "zip",
 }
 
 
@@ -114,6 +129,15 @@ class TestForm(unittest.TestCase):
                         self.assertNotIn("*", names)
                         if not node.module.startswith("chance."):
                             self.assertLessEqual(set(names), LIBRARY.get(node.module, set()))
+
+    def test_builtins(self):
+        """No clock, no random source, no files: they would need a word that is not among these."""
+        for path, text in sources():
+            for node in ast.walk(ast.parse(text)):
+                if isinstance(node, ast.Name) and node.id != "_" and hasattr(builtins, node.id):
+                    with self.subTest(file=path.name, line=node.lineno):
+                        self.assertIsInstance(node.ctx, ast.Load)
+                        self.assertIn(node.id, BUILTINS)
 
     def test_no_floats_and_no_division(self):
         for path, text in sources():

@@ -126,6 +126,24 @@ class TestAllRules(Ruled):
         self.check("let-unused", ("let", "x", ("upto", "x"), Y), (), Y)
 
 
+class TestBeyondTheLimits(Ruled):
+    def test_no_errors(self):
+        """Terms somewhat beyond the limits of point 7 are changed as the words say."""
+        self.check("pick-weigh", ("pick", ()), (), weigh())
+        self.check("range-weigh", ("range", 1, 0), (), weigh())
+        self.check("list-weigh", ("list", 1, 0, ONE), (), weigh())
+        self.check("list-weigh", ("list", 7, 8, ONE), (), weigh((1, ("tuple", (ONE,) * 7)), (1, ("tuple", (ONE,) * 8))))
+        self.check("weigh-one", weigh(), (), None)
+        self.check("weigh-flat", weigh(), (0,), None)
+        self.check("weigh-swap", weigh((0, ONE), (-1, TWO)), (0, 1), weigh((-1, TWO), (0, ONE)))
+        self.check("map-inside", ("map", ("add", 5000), const(1)), (), const(5001))
+        self.check("map-inside", ("map", ("add", 1), weigh()), (), weigh())
+        self.check("tuple-const", ("tuple", (ONE,) * 70), (), const((1,) * 70))
+        self.check("keep-inside", ("keep", ("less", 5), 5, weigh((1, ONE), (1, const(7)))), (), weigh((31, ONE), (1, LOST)))
+        self.check("let-inside", ("let", "Name", const((1,) * 70), ("var", "Name")), (), const((1,) * 70))
+        self.check("grow-unfold", ("grow", 9, ONE, SELF), (), ("grow", 8, ONE, SELF))
+
+
 class TestWeigh(Ruled):
     def test_pick_weigh(self):
         self.check("pick-weigh", ("pick", (ONE,)), (), weigh((1, ONE)))
@@ -148,6 +166,10 @@ class TestWeigh(Ruled):
         for at in (0, 2, 3, 4, 5, HUGE):
             self.check("weigh-flat", term, (at,), None)
         self.assertIsNotNone(apply_rule("weigh-flat", term, (1,)))
+        # No index stands for a place counted from the end.
+        self.check("weigh-flat", weigh((3, ONE), (2, weigh((4, TWO)))), (-1,), None)
+        self.check("tuple-at", ("tuple", (ONE, LOST)), (-1,), None)
+        self.check("weigh-swap", weigh((3, ONE), (2, TWO)), (-1, 0), None)
 
     def test_weigh_flat_limits(self):
         for inner in (1, 2, 32, 63, 64):
@@ -217,6 +239,15 @@ class TestWeigh(Ruled):
                 self.check("weigh-one", weigh((weight, term)), (), term)
         self.check("weigh-one", weigh((1, ONE), (1, ONE)), (), None)
         self.check("weigh-one", weigh(*[(1, ONE)] * 64), (), None)
+
+
+    def test_weigh_merge_of_values_nested_deeper_than_python_nests_calls(self):
+        one, two, three = 5, 5, 6
+        for _ in range(5000):
+            one, two, three = (one,), (two,), (three,)
+        found = apply_rule("weigh-merge", weigh((1, const(one)), (2, const(two))), (0, 1))
+        self.assertEqual((found[0], len(found[1]), found[1][0][0]), ("weigh", 1, 3))
+        self.assertIsNone(apply_rule("weigh-merge", weigh((1, const(one)), (2, const(three))), (0, 1)))
 
 
 class TestLeaves(Ruled):
